@@ -1,0 +1,1 @@
+"""Composition of data mappings. The calls come in by middlerules.steps."""
