@@ -11,7 +11,8 @@ MIDDLE = 1
 END = 2
 TABLES_OF_A_PLACE = 2
 
-ATOM_LENGTH = 3
+# An atom is handed in as three numbers, and so is a fact.
+TRIPLE = 3
 MOST_ATOMS = 2
 VARIABLES = 5
 
@@ -23,7 +24,7 @@ def is_table_of(table, place):
 
 def triples(numbers):
     """The numbers, three by three: the atoms or the facts that they stand for."""
-    return tuple([tuple(numbers[start:start + ATOM_LENGTH]) for start in range(0, len(numbers), ATOM_LENGTH)])
+    return tuple([tuple(numbers[start:start + TRIPLE]) for start in range(0, len(numbers), TRIPLE)])
 
 
 def is_atom(atom, place):
@@ -33,7 +34,7 @@ def is_atom(atom, place):
 
 def are_atoms(numbers, place):
     """Whether the numbers make a body or a head with tables of the place."""
-    if len(numbers) % ATOM_LENGTH != 0:
+    if len(numbers) % TRIPLE != 0:
         return False
     atoms = triples(numbers)
     if len(atoms) < 1 or len(atoms) > MOST_ATOMS:

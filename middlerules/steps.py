@@ -9,6 +9,11 @@ TWO = 2
 FACT = 3
 GONE = 4
 COMPOSED = 5
+MIDDLE = 6
+END = 7
+DIRECT = 8
+GOES = 9
+LACKS = 10
 
 
 class UnknownCall(ValueError):
@@ -38,7 +43,16 @@ def answer(service, reader):
         return [answer_to_fact(service, reader, call)]
     if call == COMPOSED:
         return service.composed()
-    # The calls 6 to 10 (middle, end, direct, goes, lacks) are to come in above this line.
+    if call == MIDDLE:
+        return service.middle()
+    if call == END:
+        return service.end()
+    if call == DIRECT:
+        return service.direct()
+    if call == GOES:
+        return [service.goes(reader.row())]
+    if call == LACKS:
+        return service.lacks(reader.row())
     raise UnknownCall(f"call {call} is not served")
 
 

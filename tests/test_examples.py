@@ -1,4 +1,4 @@
-"""The examples of the document that use begins, one, two, fact, gone and composed alone."""
+"""The examples of the document: all in one list of calls, number by number, and one by one."""
 
 import unittest
 
@@ -21,30 +21,50 @@ COMPOSED = [
     1, 0, 0, 1, 1, 5, 0, 2,
     1, 0, 0, 1, 1, 5, 1, 2,
 ]
+MIDDLE = [4, 2, 1, 2, 2, 2, 1, 2, 2, 3, 2, 3, 2]
+END = [9, 4, 1, 1, 4, 1, 3, 4, 2, 2, 4, 3, 1, 4, 3, 3, 5, 1, 100, 5, 2, 101, 5, 2, 102, 5, 3, 103]
+END_AFTER_GONE = [4, 4, 1, 1, 4, 2, 2, 5, 1, 100, 5, 2, 101]
+# Each row of the table: the call and what it answers.
+ROWS = [
+    ([5], COMPOSED),
+    ([6], MIDDLE),
+    ([7], END),
+    ([8], END),
+    ([9, 18, 4, 1, 3, 4, 1, 1, 4, 2, 2, 4, 3, 3, 4, 3, 1, 5, 1, 0], [0]),
+    ([10, 6, 4, 1, 1, 4, 2, 2], [1, 0, 0, 1, 1, 2, 2, 3]),
+    ([10, 15, 4, 1, 1, 4, 2, 2, 4, 1, 3, 4, 3, 1, 4, 3, 3], [1, 4, 0, 1, 1, 2]),
+    ([1, 3, 0, 0, 1, 3, 2, 0, 2], [-5]),
+    ([4, 0, 2, 3], [1]),
+    ([7], END_AFTER_GONE),
+    ([9, 12, 4, 1, 1, 4, 2, 2, 5, 1, 7, 5, 2, 7], [1]),
+    ([2, 3, 0, 0, 1, 3, 4, 0, 1], [-1]),
+    ([9, 3, 2, 0, 0], [-1]),
+]
 
 
 class Examples(unittest.TestCase):
-    def after_setup(self, calls):
-        given = answers(SETUP + calls)
-        self.assertEqual(given[:len(SETUP_ANSWERS)], SETUP_ANSWERS)
-        return given[len(SETUP_ANSWERS):]
+    def after_setup(self, rows):
+        calls = [number for call, _ in rows for number in call]
+        expected = [number for _, answer in rows for number in [len(answer), *answer]]
+        self.assertEqual(answers(SETUP + calls), SETUP_ANSWERS + expected)
 
-    def test_composed(self):
-        self.assertEqual(self.after_setup([5]), [len(COMPOSED)] + COMPOSED)
+    def test_all_in_one_list(self):
+        self.after_setup(ROWS)
 
-    def test_one_with_an_existential_variable(self):
-        self.assertEqual(self.after_setup([1, 3, 0, 0, 1, 3, 2, 0, 2]), [1, -5])
+    def test_each_one_as_the_last(self):
+        for count in range(len(ROWS) + 1):
+            with self.subTest(count=count):
+                self.after_setup(ROWS[:count])
 
-    def test_gone(self):
-        self.assertEqual(self.after_setup([4, 0, 2, 3]), [1, 1])
+    def test_each_one_ahead_of_gone_by_itself(self):
+        for row in ROWS[:8]:
+            with self.subTest(call=row[0]):
+                self.after_setup([row])
 
-    def test_two_with_a_source_body(self):
-        self.assertEqual(self.after_setup([2, 3, 0, 0, 1, 3, 4, 0, 1]), [1, -1])
-
-    def test_one_behind_another(self):
-        calls = [5, 1, 3, 0, 0, 1, 3, 2, 0, 2, 4, 0, 2, 3, 2, 3, 0, 0, 1, 3, 4, 0, 1, 5, 0]
-        composed = [len(COMPOSED)] + COMPOSED
-        self.assertEqual(self.after_setup(calls), composed + [1, -5, 1, 1, 1, -1] + composed + [1, 0])
+    def test_all_in_one_list_after_begins(self):
+        calls = [number for call, _ in ROWS for number in call]
+        once = answers(SETUP + calls)
+        self.assertEqual(answers(SETUP + calls + [0] + SETUP + calls), once + [1, 0] + once)
 
 
 if __name__ == "__main__":

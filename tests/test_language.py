@@ -157,6 +157,21 @@ class Syntax(unittest.TestCase):
             if isinstance(node, ast.arguments):
                 self.assertFalse(node.vararg or node.kwarg or node.kwonlyargs or node.posonlyargs, place)
 
+    def test_is_stands_beside_none_true_and_false(self):
+        for path, node in nodes(ast.Compare):
+            for operator, right in zip(node.ops, node.comparators):
+                if isinstance(operator, (ast.Is, ast.IsNot)):
+                    self.assertIsInstance(right, ast.Constant, (path, node.lineno))
+
+    def test_sets_are_put_in_order_at_once(self):
+        # Narrower than L24, but all that this program needs.
+        first_arguments = [ast.dump(node.args[0]) for _, node in self.calls_of("sorted", "len")]
+        for path, node in self.calls_of("set", "frozenset"):
+            self.assertIn(ast.dump(node), first_arguments, (path, node.lineno))
+
+    def calls_of(self, *names):
+        return [(path, node) for path, node in nodes(ast.Call) if getattr(node.func, "id", None) in names]
+
     def test_answers_is_a_plain_function_of_steps(self):
         found = [(path.name, node) for path, node in nodes(ast.FunctionDef) if node.name == "answers"]
         self.assertEqual([name for name, _ in found], ["steps.py"])

@@ -4,8 +4,8 @@ import unittest
 from itertools import product
 
 from tests.helper import (
-    BIG, COPY_OF_0, COPY_OF_1, FIRST_RULES, SECOND_RULES, ask, atoms, begins, composed, composed_of, fact, gone, one,
-    renumbered, rules, two,
+    BIG, COPY_OF_0, COPY_OF_1, FIRST_RULES, SECOND_RULES, ask, atoms, begins, composed, composed_of, direct, end, fact,
+    goes, gone, lacks, middle, one, renumbered, rules, two,
 )
 
 HEADS = ([4, 0, 1], [5, 4, 3], [4, 2, 2, 5, 0, 4])
@@ -99,15 +99,33 @@ class Point8(unittest.TestCase):
         (gone(1, 1, 2), -2),
         (gone(0, 2, 1), -2),
         (gone(BIG, 1, 2), -2),
+        (goes([4]), -1),
+        (goes([2, 0, 0]), -1),
+        (goes([4, 1, 2, 5, 1, 20]), -1),
+        (goes([4, 1, 2] * 7), -1),
+        (goes([BIG] * 24), -1),
+        (lacks([4, 1]), -1),
+        (lacks([6, 0, 0]), -1),
+        (lacks([4, 1, 2, 5, 200, 0]), -1),
+        (lacks([4, 1, 2] * 7), -1),
+        (lacks([BIG] * 24), -1),
+    )
+    # Calls that only ask, whatever they answer.
+    ASKING = (
+        composed(), middle(), end(), direct(), goes([]), lacks([]), goes([4, 1, 2]), lacks([4, 1, 2]),
+        goes([4, 1, 0, 4, 1, 1, 4, 1, 2, 4, 1, 3, 4, 1, 4]), lacks([4, 1, 0, 4, 1, 1, 4, 1, 2, 4, 1, 3, 4, 1, 4]),
+        goes([4, 100, 199] * 6), lacks([5, 199, 100] * 6),
     )
     WRONG_WITH_A_FACT = ((fact(0, 1, 2), -4),)
     WRONG_WHEN_FULL = ((one([1, 0, 1], [2, 0, 1]), -7), (two([2, 0, 1], [5, 0, 1]), -7), (fact(1, 1, 2), -7))
     PROBES = (
-        [composed()],
+        [composed(), middle(), end(), direct(), goes([]), lacks([]), goes([4, 1, 2]), lacks([4, 1, 2])],
         [fact(0, 1, 2), fact(1, 1, 2), fact(0, 20, 1), fact(0, 1, 9)],
         [gone(0, 1, 2), gone(1, 1, 2), gone(0, 1, 0), gone(0, 20, 1)],
         [one([1, 0, 1], [3, 0, 1]), one([1, 0, 1], [2, 1, 0]), one([0, 0, 0], [2, 0, 0]), composed()],
         [two([2, 0, 1], [5, 0, 1]), two([3, 0, 1], [4, 1, 0]), two([2, 0, 0], [4, 0, 0]), composed()],
+        [fact(0, 7, 7), middle(), end(), direct(), gone(0, 1, 2), goes([4, 7, 7]), lacks([4, 7, 7])],
+        [two([2, 0, 1], [5, 0, 3]), middle(), end(), direct(), one([0, 0, 1], [2, 1, 0]), lacks([4, 1, 2])],
         [one([1, 0, 1], [2, 1, 0]), two([2, 0, 1], [5, 0, 1]), composed(), begins(), composed()],
     )
 
@@ -137,6 +155,20 @@ class Point8(unittest.TestCase):
             for probe in self.PROBES:
                 given = ask(*state, *wrong, *probe)
                 self.assertEqual(given[len(state) + len(wrong):], ask(*state, *probe)[len(state):])
+
+    def test_calls_that_ask_change_nothing(self):
+        for state in self.STATES:
+            for asking in self.ASKING:
+                for probe in self.PROBES:
+                    given = ask(*state, asking, *probe)
+                    self.assertGreaterEqual(min(given[len(state)]), 0)
+                    self.assertEqual(given[:len(state)] + given[len(state) + 1:], ask(*state, *probe), (asking, probe))
+
+    def test_calls_that_ask_answer_the_same_again(self):
+        for state in self.STATES:
+            for asking in self.ASKING:
+                given = ask(*state, asking, *self.ASKING[:6], asking)
+                self.assertEqual(given[len(state)], given[-1], asking)
 
 
 if __name__ == "__main__":
